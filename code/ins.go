@@ -2,6 +2,7 @@ package code
 
 import (
 	"cinder/api"
+	"cinder/fault"
 	"cinder/wire"
 )
 
@@ -52,19 +53,13 @@ func fits(x api.Ins) bool {
 	return x.A >= r.low && x.A <= r.high && x.B >= 0 && x.B <= r.second
 }
 
-func demand(holds bool, e api.Errno, at int) {
-	if !holds {
-		wire.GiveUp(api.Fault{Err: e, At: at})
-	}
-}
-
 type encoder struct{ wire.Builder }
 
 func (e *encoder) ins(x api.Ins) {
 	at := e.Len()
-	demand(isOp(x.Op), api.ErrKind, at)
-	demand(fits(x), api.ErrRange, at)
-	demand(x.At == at, api.ErrState, at)
+	fault.DemandAt(isOp(x.Op), api.ErrKind, at)
+	fault.DemandAt(fits(x), api.ErrRange, at)
+	fault.DemandAt(x.At == at, api.ErrState, at)
 	e.Count(x.Op)
 	switch behind[x.Op] {
 	case number, where:
@@ -93,15 +88,15 @@ func checkWhere(l []api.Ins, x api.Ins) {
 		return
 	}
 	_, e := Place(l, x.A)
-	demand(e == api.OK, api.ErrRange, x.At)
+	fault.DemandAt(e == api.OK, api.ErrRange, x.At)
 }
 
 func (d *decoder) ins() api.Ins {
 	x := api.Ins{At: d.At()}
 	x.Op = d.Count()
-	demand(isOp(x.Op), api.ErrKind, x.At)
+	fault.DemandAt(isOp(x.Op), api.ErrKind, x.At)
 	// The reader would give up by itself, but tell of the byte where it ends.
-	demand(d.Left() >= rooms[behind[x.Op]].bytes, api.ErrForm, x.At)
+	fault.DemandAt(d.Left() >= rooms[behind[x.Op]].bytes, api.ErrForm, x.At)
 	switch behind[x.Op] {
 	case number:
 		x.A = int(int16(d.Number()))

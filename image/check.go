@@ -2,14 +2,8 @@ package image
 
 import (
 	"cinder/api"
-	"cinder/wire"
+	"cinder/fault"
 )
-
-func demand(holds bool, e api.Errno) {
-	if !holds {
-		wire.GiveUp(api.Fault{Err: e})
-	}
-}
 
 func within(n, most int) bool { return n >= 0 && n <= most }
 
@@ -43,20 +37,20 @@ func isReturned(k api.Kind) bool {
 }
 
 func checkClasses(l []api.Class) {
-	demand(len(l) <= api.MaxClasses, api.ErrMany)
+	fault.Demand(len(l) <= api.MaxClasses, api.ErrMany)
 	for _, c := range l {
 		checkClass(c)
 	}
 }
 
 func checkClass(c api.Class) {
-	demand(isName(c.Name), api.ErrForm)
-	demand(c.Super == "" || isName(c.Super), api.ErrForm)
-	demand(len(c.Fields) <= api.MaxFields, api.ErrMany)
-	demand(len(c.Methods) <= api.MaxMethods, api.ErrMany)
+	fault.Demand(isName(c.Name), api.ErrForm)
+	fault.Demand(c.Super == "" || isName(c.Super), api.ErrForm)
+	fault.Demand(len(c.Fields) <= api.MaxFields, api.ErrMany)
+	fault.Demand(len(c.Methods) <= api.MaxMethods, api.ErrMany)
 	for _, f := range c.Fields {
-		demand(isName(f.Name), api.ErrForm)
-		demand(isRight(f.Kind), api.ErrKind)
+		fault.Demand(isName(f.Name), api.ErrForm)
+		fault.Demand(isRight(f.Kind), api.ErrKind)
 	}
 	for _, m := range c.Methods {
 		checkMethod(m)
@@ -64,24 +58,24 @@ func checkClass(c api.Class) {
 }
 
 func checkMethod(m api.Method) {
-	demand(isName(m.Name), api.ErrForm)
-	demand(len(m.Args) <= api.MaxArgs, api.ErrMany)
-	demand(len(m.Code) <= api.MaxCode, api.ErrMany)
-	demand(len(m.Handlers) <= api.MaxHandlers, api.ErrMany)
-	demand(within(m.Stack, api.MaxStack), api.ErrRange)
-	demand(within(m.Locals, api.MaxLocals), api.ErrRange)
+	fault.Demand(isName(m.Name), api.ErrForm)
+	fault.Demand(len(m.Args) <= api.MaxArgs, api.ErrMany)
+	fault.Demand(len(m.Code) <= api.MaxCode, api.ErrMany)
+	fault.Demand(len(m.Handlers) <= api.MaxHandlers, api.ErrMany)
+	fault.Demand(within(m.Stack, api.MaxStack), api.ErrRange)
+	fault.Demand(within(m.Locals, api.MaxLocals), api.ErrRange)
 	for _, k := range m.Args {
-		demand(isRight(k), api.ErrKind)
+		fault.Demand(isRight(k), api.ErrKind)
 	}
-	demand(isReturned(m.Returns), api.ErrKind)
+	fault.Demand(isReturned(m.Returns), api.ErrKind)
 	for _, h := range m.Handlers {
 		checkHandler(h)
 	}
 }
 
 func checkHandler(h api.Handler) {
-	demand(isName(h.Class), api.ErrForm)
-	demand(within(h.From, api.MaxCode), api.ErrRange)
-	demand(within(h.To, api.MaxCode), api.ErrRange)
-	demand(within(h.At, api.MaxCode), api.ErrRange)
+	fault.Demand(isName(h.Class), api.ErrForm)
+	fault.Demand(within(h.From, api.MaxCode), api.ErrRange)
+	fault.Demand(within(h.To, api.MaxCode), api.ErrRange)
+	fault.Demand(within(h.At, api.MaxCode), api.ErrRange)
 }

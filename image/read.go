@@ -2,6 +2,7 @@ package image
 
 import (
 	"cinder/api"
+	"cinder/fault"
 	"cinder/wire"
 )
 
@@ -11,7 +12,7 @@ type reader struct{ wire.Reader }
 func readClasses(s string) []api.Class {
 	r := reader{wire.NewReader(s)}
 	l := wire.ReadCounted(&r.Reader, r.class)
-	demand(r.Left() == 0, api.ErrForm)
+	fault.Demand(r.Left() == 0, api.ErrForm)
 	return l
 }
 
@@ -46,7 +47,7 @@ func (r *reader) method() api.Method {
 
 func (r *reader) flag() bool {
 	n := r.Count()
-	demand(n <= 1, api.ErrForm)
+	fault.Demand(n <= 1, api.ErrForm)
 	return n == 1
 }
 

@@ -1,34 +1,12 @@
-// Package wire: bytes as images and code have them, lists of what is made of them, and giving up on what is wrong.
+// Package wire: bytes as images and code have them, and lists of what is made of them.
 package wire
 
 import (
 	"strings"
 
 	"cinder/api"
+	"cinder/fault"
 )
-
-// wrong is a type of its own, so that no other panic is taken for it.
-type wrong struct{ api.Fault }
-
-// GiveUp leaves whatever Caught does.
-func GiveUp(f api.Fault) { panic(wrong{f}) }
-
-// Caught does something, and tells what it gave up with, if it did.
-func Caught(do func()) (f api.Fault) {
-	defer func() {
-		p := recover()
-		if p == nil {
-			return
-		}
-		w, ok := p.(wrong)
-		if !ok {
-			panic(p) // a mistake of the program: to hide it would be to answer what is not so
-		}
-		f = w.Fault
-	}()
-	do()
-	return api.Fault{}
-}
 
 // Builder gathers bytes; its zero value has none.
 type Builder struct{ made []byte }
@@ -70,9 +48,7 @@ func (r *Reader) At() int { return r.at }
 func (r *Reader) Left() int { return len(r.text) - r.at }
 
 func (r *Reader) take(n int) string {
-	if n > r.Left() {
-		GiveUp(api.Fault{Err: api.ErrForm, At: r.at})
-	}
+	fault.DemandAt(n <= r.Left(), api.ErrForm, r.at)
 	from := r.at
 	r.at += n
 	return r.text[from:r.at]

@@ -5,6 +5,7 @@ import (
 	"testing"
 
 	"cinder/api"
+	"cinder/fault"
 	"cinder/wire"
 )
 
@@ -48,7 +49,7 @@ func TestReaderGivesUpWhereBytesEnd(t *testing.T) {
 		{"text", "\x03ab", func(r *wire.Reader) { r.Text() }, 1},
 	} {
 		r := wire.NewReader(c.text)
-		f := wire.Caught(func() { c.read(&r) })
+		f := fault.Caught(func() { c.read(&r) })
 		if want := (api.Fault{Err: api.ErrForm, At: c.at}); f != want {
 			t.Errorf("%s: got %v, want %v", c.name, f, want)
 		}
@@ -67,23 +68,4 @@ func TestListsAreReadAsWritten(t *testing.T) {
 	if got := wire.ReadAll(&r, r.Number); !slices.Equal(got, l) {
 		t.Errorf("all: %v", got)
 	}
-}
-
-func TestCaughtTellsWhatWasGivenUpWith(t *testing.T) {
-	if f := wire.Caught(func() {}); f != (api.Fault{}) {
-		t.Errorf("nothing was wrong: %v", f)
-	}
-	want := api.Fault{Err: api.ErrKind, At: 4}
-	if f := wire.Caught(func() { wire.GiveUp(want) }); f != want {
-		t.Errorf("got %v, want %v", f, want)
-	}
-}
-
-func TestCaughtHidesNoOtherPanic(t *testing.T) {
-	defer func() {
-		if p := recover(); p != "other" {
-			t.Errorf("got %v", p)
-		}
-	}()
-	wire.Caught(func() { panic("other") })
 }
