@@ -39,3 +39,16 @@ func Made[T any](do func() T) (T, api.Fault) {
 	f := Caught(func() { made = do() })
 	return made, f
 }
+
+// Question is what must be, and what it is told by, if it is not.
+type Question struct {
+	Is   func() bool
+	Else api.Errno
+}
+
+// Ask gives up at the first question whose answer is no: those behind it may lean on it.
+func Ask(l []Question) {
+	for _, q := range l {
+		Demand(q.Is(), q.Else)
+	}
+}

@@ -47,3 +47,19 @@ func TestCaughtHidesNoOtherPanic(t *testing.T) {
 	}()
 	fault.Caught(func() { panic("other") })
 }
+
+func TestAskGivesUpAtTheFirstNo(t *testing.T) {
+	asked := 0
+	says := func(is bool) func() bool {
+		return func() bool { asked++; return is }
+	}
+	f := fault.Caught(func() {
+		fault.Ask([]fault.Question{{Is: says(true), Else: api.ErrForm}, {Is: says(false), Else: api.ErrTwice}, {Is: says(false), Else: api.ErrKind}})
+	})
+	if f != (api.Fault{Err: api.ErrTwice}) || asked != 2 {
+		t.Errorf("got %v, by %d questions", f, asked)
+	}
+	if f := fault.Caught(func() { fault.Ask([]fault.Question{{Is: says(true), Else: api.ErrForm}}) }); f != (api.Fault{}) {
+		t.Errorf("nothing was wrong: %v", f)
+	}
+}

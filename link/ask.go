@@ -7,28 +7,20 @@ import (
 	"cinder/fault"
 )
 
-// question is what must hold of classes, and what it is told by, if it does not.
-type question struct {
-	holds func() bool
-	err   api.Errno
-}
-
 // askAll asks in the order in which errors are told: each question leans on those ahead of it.
 func (w *web) askAll() {
-	for _, q := range []question{
-		{w.namesDiffer, api.ErrTwice},
-		{w.hasTopAndError, api.ErrNone},
-		{w.topAloneIsUppermost, api.ErrState},
-		{w.supersAreKnown, api.ErrNone},
-		{w.noneIsAboveItself, api.ErrState},
-		{w.errorIsRight, api.ErrState},
-		{w.allToldIsKnown, api.ErrNone},
-		{w.partsDiffer, api.ErrTwice},
-		{w.sameIsSame, api.ErrState},
-		{w.areFew, api.ErrMany},
-	} {
-		fault.Demand(q.holds(), q.err)
-	}
+	fault.Ask([]fault.Question{
+		{Is: w.namesDiffer, Else: api.ErrTwice},
+		{Is: w.hasTopAndError, Else: api.ErrNone},
+		{Is: w.topAloneIsUppermost, Else: api.ErrState},
+		{Is: w.supersAreKnown, Else: api.ErrNone},
+		{Is: w.noneIsAboveItself, Else: api.ErrState},
+		{Is: w.errorIsRight, Else: api.ErrState},
+		{Is: w.allToldIsKnown, Else: api.ErrNone},
+		{Is: w.partsDiffer, Else: api.ErrTwice},
+		{Is: w.sameIsSame, Else: api.ErrState},
+		{Is: w.areFew, Else: api.ErrMany},
+	})
 }
 
 func (w *web) namesDiffer() bool { return len(w.numbers) == len(w.Classes) }
