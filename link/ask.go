@@ -18,7 +18,7 @@ func (w *web) askAll() {
 		{Is: w.errorIsRight, Else: api.ErrState},
 		{Is: w.allToldIsKnown, Else: api.ErrNone},
 		{Is: w.partsDiffer, Else: api.ErrTwice},
-		{Is: w.sameIsSame, Else: api.ErrState},
+		{Is: w.namesStandForTheSame, Else: api.ErrState},
 		{Is: w.areFew, Else: api.ErrMany},
 	})
 }
@@ -61,25 +61,25 @@ func (w *web) partsDiffer() bool {
 		every(w.Classes, func(c api.Class) bool { return differ(c.Methods, func(m api.Method) string { return m.Name }) })
 }
 
-// sameIsSame asks of each method just after the next one above it by its name: that one was held against those above it likewise.
-func (w *web) sameIsSame() bool {
+// namesStandForTheSame asks of each method just after the next one above it by its name: that one was held against those above it likewise.
+func (w *web) namesStandForTheSame() bool {
 	for i, c := range w.Classes {
-		if c.Super != "" && !every(c.Methods, func(m api.Method) bool { return w.isAs(w.Supers[i], m) }) {
+		if c.Super != "" && !every(c.Methods, func(m api.Method) bool { return w.mayStandIn(w.Supers[i], m) }) {
 			return false
 		}
 	}
 	return true
 }
 
-// isAs tells whether a method is as that of its name, called on a class, if there is one.
-func (w *web) isAs(class int, m api.Method) bool {
+// mayStandIn tells whether a method may have its name under a class: a static one stands in for none, and none for it.
+func (w *web) mayStandIn(class int, m api.Method) bool {
 	at := slices.Index(w.Names[class], m.Name)
 	if at < 0 {
 		return true
 	}
 	t := w.Targets[class][at]
 	other := w.Classes[t.Class].Methods[t.Method]
-	return m.Static == other.Static && m.Returns == other.Returns && slices.Equal(m.Args, other.Args)
+	return !m.Static && !other.Static && m.Returns == other.Returns && slices.Equal(m.Args, other.Args)
 }
 
 func (w *web) areFew() bool {

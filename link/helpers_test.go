@@ -32,14 +32,14 @@ func tree() []api.Class {
 			Methods: []api.Method{{Name: "last"}, {Name: "walk", Args: []api.Kind{kindInt, object("Node")}, Returns: kindInt}}},
 		{Name: "Late", Super: "Error", Fields: []api.Field{{Name: "when", Kind: kindInt}}},
 		{Name: "Error", Super: "Object", Fields: []api.Field{{Name: "code", Kind: kindInt}}},
-		{Name: "Leaf", Super: "Node", Methods: []api.Method{{Name: "own", Static: true}, {Name: "main", Static: true}}},
+		{Name: "Leaf", Super: "Node", Methods: []api.Method{{Name: "own", Static: true}, {Name: "main"}}},
 		{Name: "Node", Super: "Object", Fields: []api.Field{{Name: "val", Kind: kindInt}, {Name: "next", Kind: object("Node")}},
 			Methods: []api.Method{
 				{Name: "walk", Args: []api.Kind{kindInt, object("Node")}, Returns: kindInt,
 					Handlers: []api.Handler{{To: 1, Class: "Late"}}},
 				{Name: "side"},
 			}},
-		{Name: "Object", Methods: []api.Method{{Name: "main", Static: true, Code: "\x1b"}}},
+		{Name: "Object", Methods: []api.Method{{Name: "main", Code: "\x1b"}}},
 	}
 }
 
@@ -88,9 +88,10 @@ func (d *draw) classes() []api.Class {
 		}
 		for m := range 4 {
 			if d.below(2) == 0 {
-				c.Methods = append(c.Methods, api.Method{Name: "m" + strconv.Itoa(m+d.below(2)*4), Static: m == 1, Args: repeat(m, func(int) api.Kind { return kindInt })})
+				c.Methods = append(c.Methods, api.Method{Name: "m" + strconv.Itoa(m+d.below(2)*4), Args: repeat(m, func(int) api.Kind { return kindInt })})
 			}
 		}
+		c.Methods = append(c.Methods, api.Method{Name: "own" + strconv.Itoa(i), Static: true})
 		l = append(l, c)
 	}
 	for i := range l {
@@ -107,4 +108,22 @@ func isUnder(l []api.Class, a, b string) bool {
 		a = l[at].Super
 	}
 	return a == b
+}
+
+// staticIsNamedTwice holds each class against all that are above it, however far.
+func staticIsNamedTwice(l []api.Class) bool {
+	for _, a := range l {
+		for _, b := range l {
+			if a.Name != b.Name && isUnder(l, a.Name, b.Name) && haveStaticName(a.Methods, b.Methods) {
+				return true
+			}
+		}
+	}
+	return false
+}
+
+func haveStaticName(a, b []api.Method) bool {
+	return slices.ContainsFunc(a, func(m api.Method) bool {
+		return slices.ContainsFunc(b, func(n api.Method) bool { return m.Name == n.Name && (m.Static || n.Static) })
+	})
 }

@@ -89,7 +89,17 @@ func TestLinkTellsErrors(t *testing.T) {
 		{"a method twice in a class", turned(func(l []api.Class) { l[node].Methods[1] = l[node].Methods[0] }), api.ErrTwice},
 		{"a method by a field's name", turned(func(l []api.Class) { l[node].Methods[1].Name = "val" }), api.OK},
 		{"a static method of one that is not", turned(func(l []api.Class) { l[tip].Methods[1].Static = true }), api.ErrState},
-		{"a method of a static one", turned(func(l []api.Class) { l[leaf].Methods[1].Static = false }), api.ErrState},
+		{"a method of a static one", turned(func(l []api.Class) { l[top].Methods[0].Static = true }), api.ErrState},
+		{"a static method of a static one just above", turned(func(l []api.Class) { l[tip].Methods[0] = api.Method{Name: "own", Static: true} }), api.ErrState},
+		{"a static method of a static one further above", turned(func(l []api.Class) { l[top].Methods[0].Static, l[leaf].Methods[1].Static = true, true }), api.ErrState},
+		{"a static method of a static one with other arguments", turned(func(l []api.Class) {
+			l[tip].Methods[0] = api.Method{Name: "own", Static: true, Args: []api.Kind{kindInt}}
+		}), api.ErrState},
+		{"a static method of one beside", turned(func(l []api.Class) { l[late].Methods = []api.Method{{Name: "own", Static: true}} }), api.OK},
+		{"three methods, none of them static", turned(func(l []api.Class) { l[tip].Methods[0] = api.Method{Name: "main"} }), api.OK},
+		{"three methods, the uppermost one static", turned(func(l []api.Class) {
+			l[top].Methods[0].Static, l[tip].Methods[0] = true, api.Method{Name: "main"}
+		}), api.ErrState},
 		{"a method with fewer arguments", turned(func(l []api.Class) { l[tip].Methods[1].Args = l[tip].Methods[1].Args[:1] }), api.ErrState},
 		{"a method with other arguments", turned(func(l []api.Class) { l[tip].Methods[1].Args[1] = object("Leaf") }), api.ErrState},
 		{"a method that returns another kind", turned(func(l []api.Class) { l[tip].Methods[1].Returns = object("Leaf") }), api.ErrState},
@@ -112,6 +122,36 @@ func TestLinkTellsErrors(t *testing.T) {
 		if got := link.Check(api.Linked{Classes: c.l}); got != api.ErrState {
 			t.Errorf("%s: not linked, and Check says %d", c.what, got)
 		}
+	}
+}
+
+// C1: of what is drawn: ErrState, just if a method has the name of one above it, and one of both is static, or both are.
+func TestStaticMethodsHaveNamesOfTheirOwn(t *testing.T) {
+	d := draw(3)
+	tried, wrong := 0, 0
+	for range 1200 {
+		l := d.classes()
+		if _, e := link.Link(l); e != api.OK {
+			continue
+		}
+		static := "m" + strconv.Itoa(d.below(8))
+		for _, c := range l {
+			for i, m := range c.Methods {
+				c.Methods[i].Static = m.Static || m.Name == static && d.below(4) > 0
+			}
+		}
+		want := api.OK
+		if staticIsNamedTwice(l) {
+			want = api.ErrState
+			wrong++
+		}
+		if _, e := link.Link(l); e != want {
+			t.Fatalf("%v: %d, want %d", l, e, want)
+		}
+		tried++
+	}
+	if wrong < 50 || tried-wrong < 50 {
+		t.Errorf("just %d were tried, and %d of them wrong", tried, wrong)
 	}
 }
 

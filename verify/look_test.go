@@ -345,7 +345,7 @@ func TestAllTellsTheFirstOne(t *testing.T) {
 	if a, b, f := verify.All(mustLink(t, l)); a != node || b != spawned || f != (api.Fault{Err: api.ErrForm, At: 1}) {
 		t.Errorf("one ahead of it: %d, %d, %v", a, b, f)
 	}
-	l[top].Methods = []api.Method{bad("first", op(api.OpAdd))}
+	l[top].Methods = []api.Method{bad("upper", op(api.OpAdd))}
 	if a, b, f := verify.All(mustLink(t, l)); a != top || b != 0 || f != (api.Fault{Err: api.ErrNone}) {
 		t.Errorf("the first one: %d, %d, %v", a, b, f)
 	}
