@@ -228,7 +228,7 @@ func TestPlaceFindsWhoBeginsThere(t *testing.T) {
 	}
 }
 
-// B5, P1: whatever bytes are decoded are encoded as they were.
+// B5, P1, and the whole: whatever bytes are decoded are encoded as they were.
 func TestDecodedIsEncodedAsItWas(t *testing.T) {
 	d := draw(1)
 	right := 0

@@ -1,8 +1,6 @@
 package heap
 
 import (
-	"slices"
-
 	"cinder/api"
 	"cinder/fault"
 	"cinder/things"
@@ -28,38 +26,19 @@ func (w wish) come() made {
 		{Is: w.lengthMayBe, Else: api.ErrRange},
 		{Is: w.hasRoom, Else: api.ErrFull},
 	})
-	h := things.Copied(w.Heap)
-	t := things.Thing{At: w.top(), Tag: w.tag, Length: w.length, Hash: h.Next}
-	copy(h.Words[t.At:], []int{t.Tag, t.Length, t.Hash}) // those behind them are 0 already
-	h.Next++
-	if w.old {
-		h.OldTop = t.End()
-	} else {
-		h.YoungTop = t.End()
-	}
-	return made{h, t.At}
+	g := w.own()
+	at := g.Make(w.tag, w.length, w.old)
+	return made{g.Heap, at}
 }
 
 func (w wish) tagIsOne() bool { return w.IsTag(w.tag) }
 
 func (w wish) lengthMayBe() bool { return w.MayHave(w.tag, w.length) }
 
-func (w wish) hasRoom() bool { return w.top()+api.HeadWords+w.length <= w.end() }
+func (w wish) hasRoom() bool { return w.HasRoom(w.length, w.old) }
 
-func (w wish) top() int {
-	if w.old {
-		return w.OldTop
-	}
-	return w.YoungTop
-}
-
-// end is the address behind its part.
-func (w wish) end() int {
-	if w.old {
-		return len(w.Words)
-	}
-	return w.Young + 1
-}
+// own is a copy, for what changes a heap.
+func (w whole) own() things.Ground { return things.Own(w.Heap, w.Linked) }
 
 // thing gives up, if an address is none.
 func (w whole) thing(at int) things.Thing {
@@ -77,21 +56,8 @@ func (w whole) thingWith(at, n int) things.Thing {
 
 func (w whole) set(at, n, value int) api.Heap {
 	t := w.thingWith(at, n)
-	ref := w.IsRef(t, n)
-	fault.Demand(!ref || w.MayLead(value), api.ErrNone)
-	h := things.Copied(w.Heap)
-	h.Words[t.Word(n)] = value
-	if ref && w.IsOld(at) && w.IsYoung(value) {
-		h.Noted = withNoted(h.Noted, at)
-	}
-	return h
-}
-
-// withNoted keeps the list rising, and has none twice.
-func withNoted(l []int, at int) []int {
-	n, there := slices.BinarySearch(l, at)
-	if there {
-		return l
-	}
-	return slices.Insert(l, n, at)
+	fault.Demand(!w.IsRef(t, n) || w.MayLead(value), api.ErrNone)
+	g := w.own()
+	g.Set(t, n, value)
+	return g.Heap
 }

@@ -166,7 +166,7 @@ func TestReadRefusesWhatIsNeverWritten(t *testing.T) {
 	}
 }
 
-// A4: what is written is read as it was.
+// A4, and the whole: what is written is read as it was.
 func TestWrittenIsReadAsItWas(t *testing.T) {
 	d := draw(1)
 	written := 0
@@ -186,7 +186,7 @@ func TestWrittenIsReadAsItWas(t *testing.T) {
 	}
 }
 
-// A4, P1: and nothing else is: whatever is read is written as it was.
+// A4, P1, and the whole: and nothing else is: whatever is read is written as it was.
 func TestReadIsWrittenAsItWas(t *testing.T) {
 	d := draw(2)
 	right, wrong := 0, 0

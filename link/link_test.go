@@ -388,7 +388,7 @@ func TestTarget(t *testing.T) {
 	}
 }
 
-// C5: whoever is under a class has its fields and names, in their places; C4 holds of what is drawn, too.
+// C5, and the whole: whoever is under a class has its fields and names, in their places; C4 holds of what is drawn, too.
 func TestUnderAClassIsAllOfIt(t *testing.T) {
 	d := draw(1)
 	linked := 0

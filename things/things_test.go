@@ -105,11 +105,43 @@ func TestPartsAreByAddresses(t *testing.T) {
 }
 
 // P2: what is done to a copy is not seen.
-func TestCopiedSharesNothing(t *testing.T) {
+func TestOwnSharesNothing(t *testing.T) {
 	h := heap()
-	c := things.Copied(h)
-	c.Words[4], c.Noted[0] = 99, 99
-	if h.Words[4] != 21 || h.Noted[0] != 12 {
+	g := things.Own(h, mixed())
+	g.Set(g.Thing(12), 0, 6)
+	g.Words[4], g.Noted[0] = 99, 99
+	if h.Words[4] != 21 || h.Words[15] != 1 || h.Noted[0] != 12 {
 		t.Errorf("it is %v now", h)
+	}
+}
+
+// E4: a thing is made at a part's top, if there is room.
+func TestMakeLaysThings(t *testing.T) {
+	g := things.Own(heap(), mixed())
+	for length, want := range []bool{true, false} {
+		if g.HasRoom(length, true) != want || g.HasRoom(length, false) {
+			t.Errorf("room for %d: old %v, young %v", length, g.HasRoom(length, true), g.HasRoom(length, false))
+		}
+	}
+	at := g.Make(api.TagObjects, 0, true)
+	if want := (things.Thing{At: 16, Tag: api.TagObjects, Hash: 4}); at != 16 || g.Thing(at) != want || g.OldTop != 19 || g.Next != 5 || g.YoungTop != 6 {
+		t.Errorf("it is %v at %d", g, at)
+	}
+	if n := g.Thing(6).Size(); n != 6 {
+		t.Errorf("it has %d words", n)
+	}
+}
+
+// E5: an old thing that is given a young one as a ref is Noted, in its place, once.
+func TestSetNotes(t *testing.T) {
+	g := things.Own(heap(), mixed())
+	for _, x := range []struct {
+		at, n, value int
+		want         []int
+	}{{6, 1, 1, []int{12}}, {6, 0, 12, []int{12}}, {1, 0, 1, []int{12}}, {6, 2, 1, []int{6, 12}}, {6, 0, 1, []int{6, 12}}, {12, 0, 0, []int{6, 12}}} {
+		g.Set(g.Thing(x.at), x.n, x.value)
+		if g.Words[x.at+3+x.n] != x.value || !slices.Equal(g.Noted, x.want) {
+			t.Errorf("word %d of %d is set to %d: %v", x.n, x.at, x.value, g.Heap)
+		}
 	}
 }

@@ -106,7 +106,7 @@ func TestJoinOfObjectsBesideEachOther(t *testing.T) {
 	}
 }
 
-// D6: a join is the least kind that both fit.
+// D6, and the whole: a join is the least kind that both fit.
 func TestJoinIsLeast(t *testing.T) {
 	k := mustLink(t, base())
 	for _, a := range everyKind() {

@@ -292,7 +292,7 @@ func (d *draw) method() api.Method {
 	return m
 }
 
-// D6: each operation of what is right may be run with what its state tells.
+// D6, and the whole: each operation of what is right may be run with what its state tells.
 func TestWhatIsRightMayRun(t *testing.T) {
 	d := draw(4)
 	k := with(t, d.method())

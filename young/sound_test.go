@@ -121,7 +121,7 @@ func TestCollectMovesAsTold(t *testing.T) {
 	}
 }
 
-// F3: what is reached, and what was old, is as it was, with its hashes; nothing is young.
+// F3, and the whole: what is reached, and what was old, is as it was, with its hashes; nothing is young.
 func TestReachedIsAsItWas(t *testing.T) {
 	d := draw(4)
 	gone := 0
